@@ -1,0 +1,34 @@
+package splitsix
+
+import (
+	"ferryman/api"
+	"ferryman/ipv6"
+)
+
+// gaveUp is why a call has no answer; a panic carries it.
+type gaveUp api.Errno
+
+// answer is what a way tells; if the way gives up, nothing beside why.
+func answer[T any](way func() T) (told T, e api.Errno) {
+	defer func() {
+		v := recover()
+		if why, is := v.(gaveUp); is {
+			e = api.Errno(why)
+		} else if v != nil {
+			panic(v) // no datagram's fault, and not to be hidden
+		}
+	}()
+	return way(), api.OK
+}
+
+func must(holds bool, e api.Errno) {
+	if !holds {
+		panic(gaveUp(e))
+	}
+}
+
+// check gives up on a datagram that may not be.
+func check(v api.V6) {
+	e := ipv6.Check(v)
+	must(e == api.OK, e)
+}
