@@ -1,0 +1,29 @@
+package join
+
+import "ferryman/api"
+
+// gaveUp is why a call has no answer; a panic carries it.
+type gaveUp api.Errno
+
+// answer is what a way tells; if the way gives up, nothing beside why.
+func answer[T any](way func() (T, bool)) (told T, is bool, e api.Errno) {
+	defer func() {
+		v := recover()
+		if why, mine := v.(gaveUp); mine {
+			e = api.Errno(why)
+		} else if v != nil {
+			panic(v) // no fragment's fault, and not to be hidden
+		}
+	}()
+	told, is = way()
+	return told, is, api.OK
+}
+
+func must(holds bool, e api.Errno) {
+	if !holds {
+		panic(gaveUp(e))
+	}
+}
+
+// good gives up by the error that a lower call answered.
+func good(e api.Errno) { must(e == api.OK, e) }
